@@ -112,6 +112,27 @@ func (m runMap) greatest(rep int) int {
 	return spans[len(spans)-1].to
 }
 
+func (m runMap) next(rep int) (Dot, bool) {
+	seq := m.greatest(rep) + 1
+	if !repOk(rep) || seq > MaxSeq {
+		return Dot{}, false
+	}
+	return Dot{rep, seq}, true
+}
+
+func compareDots(a Dot, b Dot) int {
+	return cmp.Or(cmp.Compare(a.Rep, b.Rep), cmp.Compare(a.Seq, b.Seq))
+}
+
+// runsOfDots takes the dots in ascending order, as appendSpan lets a span go up in none but the last.
+func runsOfDots(dots []Dot) runMap {
+	m := runMap{}
+	for _, d := range slices.SortedFunc(slices.Values(dots), compareDots) {
+		m[d.Rep] = appendSpan(m[d.Rep], span{d.Seq, d.Seq})
+	}
+	return m
+}
+
 func mergeSpans(a []span, b []span) []span {
 	merged := make([]span, 0, len(a)+len(b))
 	for len(a) > 0 && len(b) > 0 {
@@ -203,14 +224,10 @@ func Covers(a Context, b Context) bool {
 // NextDot gives the next dot of a replica.
 func NextDot(c Context, rep int) (Dot, bool) {
 	m, ok := openContext(c)
-	if !ok || !repOk(rep) {
+	if !ok {
 		return Dot{}, false
 	}
-	seq := m.greatest(rep) + 1
-	if seq > MaxSeq {
-		return Dot{}, false
-	}
-	return Dot{rep, seq}, true
+	return m.next(rep)
 }
 
 // PutContext writes a context.
