@@ -156,7 +156,11 @@ func GetUvarint(b []byte, pos int) (uint64, int, int) {
 
 // PutText writes a text.
 func PutText(s string) []byte {
-	return append(PutUvarint(uint64(len(s))), s...)
+	return appendText(nil, s)
+}
+
+func appendText(b []byte, s string) []byte {
+	return append(appendUvarint(b, uint64(len(s))), s...)
 }
 
 // GetText reads a text.

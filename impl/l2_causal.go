@@ -12,7 +12,7 @@ const MaxSeq = 1000000000
 const MaxRuns = 1000
 
 var errLimit = errors.New("a number is above its limit")
-var errOrder = errors.New("replicas are out of order")
+var errOrder = errors.New("out of order")
 var errNoRuns = errors.New("a replica has no runs")
 
 // Dot is described in the document.
@@ -236,12 +236,16 @@ func PutContext(c Context) ([]byte, bool) {
 	if !ok {
 		return nil, false
 	}
-	b := PutUvarint(uint64(len(m)))
+	return m.appendTo(nil), true
+}
+
+func (m runMap) appendTo(b []byte) []byte {
+	b = appendUvarint(b, uint64(len(m)))
 	for _, rep := range slices.Sorted(maps.Keys(m)) {
 		b = appendUvarint(b, uint64(rep))
 		b = appendSpans(b, m[rep])
 	}
-	return b, true
+	return b
 }
 
 // appendSpans counts from the first number that a span could begin with, which is what leaves no room for a second form.
